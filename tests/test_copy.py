@@ -60,8 +60,8 @@ class CopyRefusals(unittest.TestCase):
         self.assertEqual(told[9:], [[3, 1], [4, 1]])
 
     def test_60_versions(self):
-        told = ask(*[insert(0, 0, b"a")] * 58, copy(1, 0, 1, 0, 0), copy(1, 0, 1, 0, 0), copy(1, 0, 0, 1, 0))
-        self.assertEqual(told[58:], [[59, 0], [-5], [-5]])
+        told = ask(*[insert(0, 0, b"a")] * 58, copy(1, 0, 1, 0, 0), copy(1, 0, 1, 0, 0), copy(1, 0, 0, 1, 0), part(1, 0, 1), part(60, 0, 0))
+        self.assertEqual(told[58:], [[59, 0], [-5], [-5], [1, 97], [-2]])
 
     def test_2_to_40_bytes_and_one_more(self):
         calls = doubled([])

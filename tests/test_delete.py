@@ -51,8 +51,8 @@ class DeleteRefusals(unittest.TestCase):
         self.assertEqual(told[1:], [[-1]] * 6 + [[2, 0]])
 
     def test_60_versions(self):
-        told = ask(*[insert(0, 0, b"a")] * 58, delete(1, 0, 1), delete(1, 0, 1), delete(1, 0, 0))
-        self.assertEqual(told[58:], [[59, 0], [-5], [-5]])
+        told = ask(*[insert(0, 0, b"a")] * 58, delete(1, 0, 1), delete(1, 0, 1), delete(1, 0, 0), part(1, 0, 1), part(60, 0, 0))
+        self.assertEqual(told[58:], [[59, 0], [-5], [-5], [1, 97], [-2]])
 
     def test_of_several_the_one_told_first(self):
         full = [insert(0, 0, b"ab")] * 59

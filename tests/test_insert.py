@@ -63,8 +63,8 @@ class InsertRefusals(unittest.TestCase):
 
     def test_60_versions(self):
         calls = [insert(0, 0, b"a")] * 59
-        told = ask(*calls, insert(0, 0, b"a"), insert(59, 1, b""))
-        self.assertEqual(told[57:], [[58, 1], [59, 1], [-5], [-5]])
+        told = ask(*calls, insert(0, 0, b"a"), insert(59, 1, b""), part(59, 0, 1), part(60, 0, 0))
+        self.assertEqual(told[57:], [[58, 1], [59, 1], [-5], [-5], [1, 97], [-2]])
 
     def test_2_to_40_bytes_and_one_more(self):
         calls = doubled([])
