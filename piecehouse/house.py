@@ -1,7 +1,8 @@
 """A house of versions and the calls on it; each call answers a list of numbers, a refusal alone."""
 
-from piecehouse.nodes import Maker, count_made_since
-from piecehouse.texts import bytes_between, feeds_of, line_begin, line_end, size_of
+from piecehouse.nodes import Maker, count_nodes
+from piecehouse.texts import bytes_between, count_alike, feeds_ahead, feeds_of, height_of
+from piecehouse.texts import leaves_of, line_begin, line_end, longest_of, size_of
 from piecehouse.trees import cut, made_of_bytes, put_in, taken_out
 
 UNFIT = -1
@@ -31,7 +32,7 @@ class House:
     def keep(self, tree, earlier):
         """Keeps the tree as a new version, made by a call ahead of which earlier nodes had been made."""
         self.trees.append(tree)
-        return [len(self.trees) - 1, count_made_since(tree, earlier)]
+        return [len(self.trees) - 1, count_nodes([tree], earlier)]
 
 
 def is_range(tree, begin, end):
@@ -98,3 +99,42 @@ def line_answer(house, version, line):
         return [UNFIT]
     begin = line_begin(tree, line)
     return [begin, line_end(tree, line) - begin]
+
+
+def where_answer(house, version, place):
+    if not house.has(version):
+        return [NO_VERSION]
+    tree = house.trees[version]
+    if place > size_of(tree):
+        return [UNFIT]
+    line = feeds_ahead(tree, place)
+    return [line, place - line_begin(tree, line)]
+
+
+def longest_answer(house, version):
+    if not house.has(version):
+        return [NO_VERSION]
+    return list(longest_of(house.trees[version]))
+
+
+def shape_answer(house, version):
+    if not house.has(version):
+        return [NO_VERSION]
+    tree = house.trees[version]
+    return [size_of(tree), feeds_of(tree), height_of(tree), leaves_of(tree), count_nodes([tree])]
+
+
+def alike_answer(house, version, place, other, spot):
+    if not house.has(version) or not house.has(other):
+        return [NO_VERSION]
+    tree = house.trees[version]
+    against = house.trees[other]
+    if place > size_of(tree) or spot > size_of(against):
+        return [UNFIT]
+    most = min(MOST_AT_ONCE, size_of(tree) - place, size_of(against) - spot)
+    some = bytes_between(tree, place, place + most)
+    return [count_alike(some, bytes_between(against, spot, spot + most))]
+
+
+def all_answer(house):
+    return [len(house.trees), count_nodes(house.trees)]

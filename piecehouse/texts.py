@@ -11,6 +11,19 @@ def feeds_of(tree):
     return 0 if tree is None else tree.feeds
 
 
+def height_of(tree):
+    return 0 if tree is None else tree.height
+
+
+def leaves_of(tree):
+    return 0 if tree is None else tree.leaves
+
+
+def longest_of(tree):
+    """The number of the longest line and how many bytes it has."""
+    return (0, 0) if tree is None else tree.longest
+
+
 def bytes_between(tree, begin, end):
     """The bytes from begin up to end, as a list."""
     found = []
@@ -61,3 +74,27 @@ def line_end(tree, line):
     if line == feeds_of(tree):
         return size_of(tree)
     return place_behind_feed(tree, line + 1) - 1
+
+
+def feeds_ahead(tree, place):
+    """How many line feeds are ahead of the place."""
+    if tree is None:
+        return 0
+    passed = 0
+    node = tree
+    while node.height > 0:
+        if place <= node.first.size:
+            node = node.first
+        else:
+            place -= node.first.size
+            passed += node.first.feeds
+            node = node.second
+    return passed + node.content[:place].count(LINE_FEED)
+
+
+def count_alike(some, others):
+    """How many numbers of the two lists, which are equally long, are the same up to the first that is not."""
+    count = 0
+    while count < len(some) and some[count] == others[count]:
+        count += 1
+    return count

@@ -1,25 +1,28 @@
 """The program's interface: a list of calls goes in, a list of answers comes out."""
 
 from piecehouse.house import House, copy_answer, delete_answer, insert_answer, line_answer, part_answer
+from piecehouse.house import alike_answer, all_answer, longest_answer, shape_answer, where_answer
 
 INSERT = 0
 DELETE = 1
 COPY = 2
 PART = 3
+LINE = 4
+WHERE = 5
+LONGEST = 6
+SHAPE = 7
+ALIKE = 8
 
 # How many numbers each call has, by its number; insert has its bytes besides.
-CALL_LENGTHS = (4, 4, 6, 4, 3)
+CALL_LENGTHS = (4, 4, 6, 4, 3, 3, 2, 2, 5, 1)
 # Where in an insert it stands how many bytes it has.
 BYTE_COUNT = 3
 
 
 def call_length(calls, start):
     """How many numbers the call has that begins at start."""
-    number = calls[start]
-    if number >= len(CALL_LENGTHS):
-        raise NotImplementedError(f"there is no call {number} yet")
-    length = CALL_LENGTHS[number]
-    if number == INSERT:
+    length = CALL_LENGTHS[calls[start]]
+    if calls[start] == INSERT:
         return length + calls[start + BYTE_COUNT]
     return length
 
@@ -34,7 +37,17 @@ def call_answer(house, call):
         return copy_answer(house, call[1], call[2], call[3], call[4], call[5])
     if number == PART:
         return part_answer(house, call[1], call[2], call[3])
-    return line_answer(house, call[1], call[2])
+    if number == LINE:
+        return line_answer(house, call[1], call[2])
+    if number == WHERE:
+        return where_answer(house, call[1], call[2])
+    if number == LONGEST:
+        return longest_answer(house, call[1])
+    if number == SHAPE:
+        return shape_answer(house, call[1])
+    if number == ALIKE:
+        return alike_answer(house, call[1], call[2], call[3], call[4])
+    return all_answer(house)
 
 
 def answers(calls):

@@ -1,7 +1,8 @@
 """What the tests share: how calls are written, how answers are read, and a plain reckoning.
 
 The plain reckoning keeps each version twice: as bytes copied whole (as long as they are short),
-and as a tree for which the document's words are followed one by one, by recursion.
+and as a tree for which the document's words are followed one by one, by recursion. What is read
+of a text is read from the whole bytes; of a text too long for that, from trees that are parted.
 """
 
 from piecehouse.house import House
@@ -10,6 +11,7 @@ from piecehouse.versions import answers, call_answer, call_length
 MOST = 2 ** 40
 TOP = 2 ** 41 - 1
 LONGEST_WHOLE = 4096
+NAMES = ("insert", "delete", "copy", "part", "line", "where", "longest", "shape", "alike", "everything")
 
 
 def insert(version, place, content):
@@ -31,6 +33,27 @@ def part(version, begin, end):
 
 def line(version, number):
     return [4, version, number]
+
+
+def where(version, place):
+    return [5, version, place]
+
+
+def longest(version):
+    return [6, version]
+
+
+def shape(version):
+    return [7, version]
+
+
+def alike(version, place, other, spot):
+    return [8, version, place, other, spot]
+
+
+def everything():
+    """The call all."""
+    return [9]
 
 
 def flat(calls):
@@ -62,13 +85,13 @@ def house_after(*calls):
     return house
 
 
-def shape(tree):
+def nested(tree):
     """A tree as nested tuples, each leaf as bytes; None is no tree."""
     if tree is None:
         return None
     if tree.height == 0:
         return bytes(tree.content)
-    return (shape(tree.first), shape(tree.second))
+    return (nested(tree.first), nested(tree.second))
 
 
 def doubled(calls):
@@ -88,6 +111,9 @@ class PlainNode:
         self.leaf = content is not None
         self.height = 0 if self.leaf else 1 + max(first.height, second.height)
         self.size = len(content) if self.leaf else first.size + second.size
+        self.feeds = content.count(b"\n") if self.leaf else first.feeds + second.feeds
+        self.leaves = 1 if self.leaf else first.leaves + second.leaves
+        self.lines = None
         made.append(self)
 
 
@@ -185,6 +211,46 @@ def different(tree, found):
     return found
 
 
+def flat_text(tree):
+    if tree is None:
+        return b""
+    return tree.content if tree.leaf else flat_text(tree.first) + flat_text(tree.second)
+
+
+def lines_below(node):
+    """The head, the lengths of the lines between head and tail with their first numbers, and the tail.
+
+    Without a line feed, head and tail are the one line there is.
+    """
+    if node.lines is None:
+        if node.leaf:
+            sizes = [len(one) for one in node.content.split(b"\n")]
+            inner = {size: number for number, size in reversed(list(enumerate(sizes))) if 0 < number < len(sizes) - 1}
+            node.lines = (sizes[0], inner, sizes[-1])
+        else:
+            node.lines = lines_together(node.first, node.second)
+    return node.lines
+
+
+def lines_together(first, second):
+    head, inner, tail = lines_below(first)
+    other_head, other_inner, other_tail = lines_below(second)
+    inner = dict(inner)
+    seam = tail + other_head
+    if first.feeds and second.feeds:
+        inner.setdefault(seam, first.feeds)
+    for size, number in other_inner.items():
+        inner[size] = min(inner.get(size, MOST), first.feeds + number)
+    return head if first.feeds else seam, inner, other_tail if second.feeds else seam
+
+
+def longest_below(node):
+    head, inner, tail = lines_below(node)
+    lines = [(-head, 0), (-tail, node.feeds)] + [(-size, number) for size, number in inner.items()]
+    size, number = min(lines)
+    return [number, -size]
+
+
 class PlainHouse:
     """Answers calls as the document tells; whole[v] is None where a text is too long to be copied whole."""
 
@@ -196,13 +262,18 @@ class PlainHouse:
         return 0 if self.trees[version] is None else self.trees[version].size
 
     def answer(self, call):
-        name = ("insert", "delete", "copy", "part", "line")[call[0]]
+        name = NAMES[call[0]]
         given = call[1:3] + [call[4:]] if name == "insert" else call[1:]
         return getattr(self, name)(*given)
 
     def kept(self, work, tree, whole):
         self.trees.append(tree)
-        self.whole.append(whole if whole is not None and len(whole) <= LONGEST_WHOLE else None)
+        if self.size(len(self.trees) - 1) > LONGEST_WHOLE:
+            whole = None
+        elif whole is None:
+            # A short one of long ones.
+            whole = flat_text(tree)
+        self.whole.append(whole)
         made = {id(node) for node in work.made}
         return [len(self.trees) - 1, len(made & set(different(tree, {})))]
 
@@ -263,13 +334,88 @@ class PlainHouse:
         refused = self.refusal(
             (-2, lambda: version >= len(self.trees)),
             (-1, lambda: end < begin or end > self.size(version) or end - begin > 200))
-        return refused or [end - begin] + list(self.whole[version][begin:end])
+        return refused or [end - begin] + list(self.text(version, begin, end))
+
+    def text(self, version, begin, end):
+        """The bytes from begin up to end, or up to the text's end if that is ahead of it."""
+        if self.whole[version] is not None:
+            return self.whole[version][begin:end]
+        work = PlainTrees()
+        return flat_text(work.parted(work.parted(self.trees[version], end)[0], begin)[1])
+
+    def feeds_ahead(self, version, place):
+        if self.whole[version] is not None:
+            return self.whole[version][:place].count(b"\n")
+        ahead = PlainTrees().parted(self.trees[version], place)[0]
+        return 0 if ahead is None else ahead.feeds
+
+    def first_place(self, version, feeds):
+        """The first place that has so many line feeds ahead of it; the text's end and 1 if there is none."""
+        low, high = 0, self.size(version) + 1
+        while low < high:
+            middle = (low + high) // 2
+            if self.feeds_ahead(version, middle) >= feeds:
+                high = middle
+            else:
+                low = middle + 1
+        return low
+
+    def feeds(self, version):
+        return self.feeds_ahead(version, self.size(version))
 
     def line(self, version, number):
         refused = self.refusal(
             (-2, lambda: version >= len(self.trees)),
-            (-1, lambda: number >= len(self.whole[version].split(b"\n"))))
+            (-1, lambda: number > self.feeds(version)))
         if refused:
             return refused
+        if self.whole[version] is None:
+            begin = self.first_place(version, number)
+            end = self.size(version) if number == self.feeds(version) else self.first_place(version, number + 1) - 1
+            return [begin, end - begin]
         lines = self.whole[version].split(b"\n")
         return [sum(len(one) + 1 for one in lines[:number]), len(lines[number])]
+
+    def where(self, version, place):
+        refused = self.refusal(
+            (-2, lambda: version >= len(self.trees)),
+            (-1, lambda: place > self.size(version)))
+        if refused:
+            return refused
+        number = self.feeds_ahead(version, place)
+        if self.whole[version] is None:
+            return [number, place - self.first_place(version, number)]
+        return [number, len(self.whole[version][:place].split(b"\n")[-1])]
+
+    def longest(self, version):
+        if version >= len(self.trees):
+            return [-2]
+        if self.whole[version] is None:
+            return longest_below(self.trees[version])
+        sizes = [len(one) for one in self.whole[version].split(b"\n")]
+        return [sizes.index(max(sizes)), max(sizes)]
+
+    def shape(self, version):
+        if version >= len(self.trees):
+            return [-2]
+        tree = self.trees[version]
+        if tree is None:
+            return [0, 0, 0, 0, 0]
+        return [self.size(version), self.feeds(version), tree.height, tree.leaves, len(different(tree, {}))]
+
+    def alike(self, version, place, other, spot):
+        refused = self.refusal(
+            (-2, lambda: version >= len(self.trees) or other >= len(self.trees)),
+            (-1, lambda: place > self.size(version) or spot > self.size(other)))
+        if refused:
+            return refused
+        pairs = zip(self.text(version, place, place + 200), self.text(other, spot, spot + 200))
+        unlike = [k for k, (one, two) in enumerate(pairs) if one != two]
+        longest_possible = min(200, self.size(version) - place, self.size(other) - spot)
+        return [min(unlike, default=longest_possible)]
+
+    def everything(self):
+        found = {}
+        for tree in self.trees:
+            different(tree, found)
+        return [len(self.trees), len(found)]

@@ -2,7 +2,7 @@
 
 import unittest
 
-from tests.plain import MOST, TOP, ask, copy, delete, doubled, house_after, insert, part, shape
+from tests.plain import MOST, TOP, ask, copy, delete, doubled, house_after, insert, nested, part
 
 
 class CopyAnswers(unittest.TestCase):
@@ -42,8 +42,8 @@ class CopyAnswers(unittest.TestCase):
 
     def test_leaves_of_8_and_9_bytes_together(self):
         begin = insert(0, 0, b"abcdefgh")
-        self.assertEqual(shape(house_after(begin, copy(1, 0, 4, 0, 0), copy(1, 4, 8, 2, 4)).trees[3]), b"abcdefgh")
-        self.assertEqual(shape(house_after(begin, copy(1, 0, 4, 0, 0), copy(1, 3, 8, 2, 4)).trees[3]), (b"abcd", b"defgh"))
+        self.assertEqual(nested(house_after(begin, copy(1, 0, 4, 0, 0), copy(1, 4, 8, 2, 4)).trees[3]), b"abcdefgh")
+        self.assertEqual(nested(house_after(begin, copy(1, 0, 4, 0, 0), copy(1, 3, 8, 2, 4)).trees[3]), (b"abcd", b"defgh"))
         self.assertEqual(ask(begin, copy(1, 0, 4, 0, 0), copy(1, 4, 8, 2, 4), copy(1, 3, 8, 2, 4))[1:],
                          [[2, 1], [3, 1], [4, 2]])
 

@@ -2,7 +2,7 @@
 
 import unittest
 
-from tests.plain import MOST, TOP, ask, delete, doubled, house_after, insert, part, shape
+from tests.plain import MOST, TOP, ask, delete, doubled, house_after, insert, nested, part
 
 EIGHTS = b"aaaaaaaabbbbbbbbccccccccdddddddd"
 
@@ -32,12 +32,12 @@ class DeleteAnswers(unittest.TestCase):
         house = house_after(*calls)
         self.assertEqual(house.trees[2].number, house.trees[1].second.number)
         self.assertEqual(house.trees[3].number, house.trees[1].first.number)
-        self.assertEqual(shape(house.trees[4]), (b"aaaaaaaa", b"dddddddd"))
+        self.assertEqual(nested(house.trees[4]), (b"aaaaaaaa", b"dddddddd"))
 
     def test_leaves_of_8_and_9_bytes_together(self):
         begin = insert(0, 0, EIGHTS[:16])
-        self.assertEqual(shape(house_after(begin, delete(1, 4, 12)).trees[2]), b"aaaabbbb")
-        self.assertEqual(shape(house_after(begin, delete(1, 5, 12)).trees[2]), (b"aaaaa", b"bbbb"))
+        self.assertEqual(nested(house_after(begin, delete(1, 4, 12)).trees[2]), b"aaaabbbb")
+        self.assertEqual(nested(house_after(begin, delete(1, 5, 12)).trees[2]), (b"aaaaa", b"bbbb"))
         self.assertEqual(ask(begin, delete(1, 4, 12), delete(1, 5, 12))[1:], [[2, 1], [3, 3]])
 
 

@@ -2,7 +2,7 @@
 
 import unittest
 
-from tests.plain import MOST, TOP, ask, copy, delete, doubled, house_after, insert, line, part, shape
+from tests.plain import MOST, TOP, ask, copy, delete, doubled, house_after, insert, line, nested, part
 
 
 class InsertAnswers(unittest.TestCase):
@@ -20,9 +20,9 @@ class InsertAnswers(unittest.TestCase):
 
     def test_a_made_tree_is_joined_from_the_beginning(self):
         house = house_after(insert(0, 0, b"aaaaaaaabbbbbbbbccccccccdd"))
-        self.assertEqual(shape(house.trees[1]), ((b"aaaaaaaa", b"bbbbbbbb"), (b"cccccccc", b"dd")))
+        self.assertEqual(nested(house.trees[1]), ((b"aaaaaaaa", b"bbbbbbbb"), (b"cccccccc", b"dd")))
         house = house_after(insert(0, 0, b"aaaaaaaabbbbbbbbcc"))
-        self.assertEqual(shape(house.trees[1]), ((b"aaaaaaaa", b"bbbbbbbb"), b"cc"))
+        self.assertEqual(nested(house.trees[1]), ((b"aaaaaaaa", b"bbbbbbbb"), b"cc"))
 
     def test_no_bytes_put_in(self):
         begin = insert(0, 0, b"abcdefgh")
@@ -38,8 +38,8 @@ class InsertAnswers(unittest.TestCase):
         # The old leaf stays; a leaf and the node over both are new.
         self.assertEqual(ask(begin, insert(1, 4, b"efghi"))[1], [2, 2])
         self.assertEqual(ask(begin, insert(1, 0, b"efghi"))[1], [2, 2])
-        self.assertEqual(shape(house_after(begin, insert(1, 4, b"efgh")).trees[2]), b"abcdefgh")
-        self.assertEqual(shape(house_after(begin, insert(1, 4, b"efghi")).trees[2]), (b"abcd", b"efghi"))
+        self.assertEqual(nested(house_after(begin, insert(1, 4, b"efgh")).trees[2]), b"abcdefgh")
+        self.assertEqual(nested(house_after(begin, insert(1, 4, b"efghi")).trees[2]), (b"abcd", b"efghi"))
 
     def test_200_bytes_and_a_byte_of_255_are_let(self):
         told = ask(insert(0, 0, [255] * 200), part(1, 0, 200))

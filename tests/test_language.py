@@ -1,9 +1,15 @@
-"""The package keeps to the small part of Python that it is written in (what of that a test can see)."""
+"""The package keeps to the small part of Python that it is written in (what of that a test can see).
+
+Where a rule allows something under conditions that the package has no need of, the test allows nothing of it.
+"""
 
 import ast
 import builtins
+import io
+import keyword
 import pathlib
 import re
+import tokenize
 import unittest
 
 FOLDER = pathlib.Path(__file__).resolve().parent.parent / "piecehouse"
@@ -24,7 +30,17 @@ rstrip setdefault split splitlines startswith strip update upper values zfill bi
 WORDS_NOWHERE = """type typing typing_extensions enum Enum IntEnum StrEnum Flag IntFlag Generic Protocol ABC ABCMeta
 namedtuple NamedTuple TypedDict TYPE_CHECKING abstractmethod""".split()
 
-NOT_AS_NAMES = "register mro elements open input version_info with_traceback add_note format format_map".split()
+WORDS_WITHIN_NO_WORD = ("dataclass", "overload", "contextmanager")
+
+NOT_AS_NAMES = """register mro elements open input version_info with_traceback add_note format format_map attrgetter
+breakpoint builtins compile copyright credits delattr dir eval exec exit gc getattr globals hasattr help id importlib
+license locals methodcaller os quit setattr super sys type vars""".split()
+
+NOT_AS_FILES = """test tests testing site conftest sitecustomize usercustomize""".split()
+
+CHANGES = "append clear extend insert pop remove reverse setdefault update".split()
+
+WALKED_AT_ONCE = "zip enumerate reversed range".split()
 
 DOUBLE = ("__init__", "__eq__", "__repr__", "__str__", "__len__")
 
@@ -56,6 +72,24 @@ def bound_in(tree):
     return found
 
 
+def bound_at_top(node):
+    if isinstance(node, ast.ImportFrom):
+        return [alias.asname or alias.name for alias in node.names]
+    if isinstance(node, ast.Assign):
+        return [node.targets[0].id]
+    return [node.name] if isinstance(node, (ast.FunctionDef, ast.ClassDef)) else []
+
+
+def parents():
+    """Each node of all files with the one above it."""
+    return [(name, above, node) for name, above in walk(ast.AST) for node in ast.iter_child_nodes(above)]
+
+
+def locals_of(function):
+    given = [one.arg for one in function.args.args]
+    return given + [node.id for node in ast.walk(function) if isinstance(node, ast.Name) and isinstance(node.ctx, ast.Store)]
+
+
 def is_plain(value):
     if isinstance(value, (ast.List, ast.Tuple)):
         return all(is_plain(one) for one in value.elts)
@@ -72,6 +106,9 @@ class Language(unittest.TestCase):
         for path, source in sources().items():
             self.assertIsNone(re.search("[^ -~\n]", source), path.name)
             self.assertEqual([word for word in re.findall(r"\w+", source) if word in WORDS_NOWHERE], [], path.name)
+            self.assertEqual([word for word in WORDS_WITHIN_NO_WORD if word in source], [], path.name)
+            self.assertNotIn(path.stem, NOT_AS_FILES + WORDS_NOWHERE + list(vars(builtins)) + keyword.kwlist)
+            self.assertFalse(path.stem.startswith("test_"), path.name)
 
     def test_sizes(self):
         for path, source in sources().items():
@@ -91,6 +128,10 @@ class Language(unittest.TestCase):
             self.assertNotIsInstance(node.targets[0], (ast.Tuple, ast.List), (name, node.lineno))
         for name, node in walk((ast.For, ast.While)):
             self.assertEqual(node.orelse, [], (name, node.lineno))
+        for name, node in walk(ast.ListComp):
+            self.assertEqual(len(node.generators), 1, (name, node.lineno))
+            self.assertLessEqual(len(node.generators[0].ifs), 1, (name, node.lineno))
+        self.assertEqual(walk((ast.Set, ast.Pow, ast.Lambda, ast.Try, ast.JoinedStr)), [])
 
     def test_the_top_of_a_file(self):
         for path, tree in trees().items():
@@ -98,7 +139,10 @@ class Language(unittest.TestCase):
                 self.assertIsInstance(node, (ast.ImportFrom, ast.FunctionDef, ast.ClassDef, ast.Assign), path.name)
                 if isinstance(node, ast.Assign):
                     self.assertTrue(is_plain(node.value), (path.name, node.lineno))
+                    self.assertNotIsInstance(node.value, (ast.List, ast.Dict), (path.name, node.lineno))
             self.assertIsNotNone(ast.get_docstring(tree), path.name)
+            names = [name for node in tree.body for name in bound_at_top(node)]
+            self.assertEqual(len(names), len(set(names)), path.name)
 
     def test_imports(self):
         tops = {path.stem: {node.name for node in tree.body if isinstance(node, (ast.FunctionDef, ast.ClassDef))}
@@ -122,8 +166,16 @@ class Language(unittest.TestCase):
             given = node.args
             self.assertEqual((node.decorator_list, given.vararg, given.kwarg, given.kwonlyargs, given.posonlyargs),
                              ([], None, None, [], []), (name, node.name))
+            self.assertTrue(all(is_plain(value) for value in given.defaults), (name, node.name))
+            self.assertEqual([node.returns] + [one.annotation for one in given.args], [None] * (1 + len(given.args)), (name, node.name))
+            if node.name == "__init__":
+                self.assertEqual([one for one in ast.walk(node) if isinstance(one, ast.Return)], [], name)
+            elif node.name.startswith("__"):
+                self.fail((name, node.name))
         for name, node in walk(ast.ClassDef):
-            self.assertEqual(node.decorator_list, [], (name, node.name))
+            self.assertEqual((node.decorator_list, node.bases, node.keywords), ([], [], []), (name, node.name))
+            methods = [one.name for one in node.body if isinstance(one, ast.FunctionDef)]
+            self.assertEqual(len(methods), len(set(methods)), (name, node.name))
             for one in node.body:
                 if isinstance(one, ast.Expr):
                     self.assertIsInstance(one.value, ast.Constant, (name, node.name))
@@ -141,6 +193,58 @@ class Language(unittest.TestCase):
                 if isinstance(node, ast.Name) and node.id not in bound:
                     self.assertIn(node.id, PYTHONS_NAMES, (path.name, node.lineno))
 
+    def test_locals_are_called_like_nothing_else(self):
+        for path, tree in trees().items():
+            taken = [name for node in tree.body if not isinstance(node, ast.Assign) for name in bound_at_top(node)]
+            for node in ast.walk(tree):
+                if isinstance(node, ast.FunctionDef):
+                    self.assertEqual(set(locals_of(node)) & set(taken), set(), (path.name, node.name))
+
+    def test_classes_and_pythons_own_are_called_on_the_spot(self):
+        classes = [node.name for name, node in walk(ast.ClassDef)]
+        for name, above, node in parents():
+            if isinstance(node, ast.Name) and node.id in classes + PYTHONS_NAMES:
+                self.assertIsInstance(above, ast.Call, (name, node.lineno))
+                self.assertEqual(above.func, node, (name, node.lineno))
+                self.assertNotIn(node.id, ("set", "frozenset"), (name, node.lineno))
+        for name, node in walk(ast.Call):
+            if node.keywords:
+                self.assertIn(node.func.id, ("max", "min"), (name, node.lineno))
+                self.assertEqual([one.arg for one in node.keywords], ["default"], (name, node.lineno))
+
+    def test_walked_at_once_and_not_changed_meanwhile(self):
+        for name, above, node in parents():
+            if isinstance(node, ast.Call) and isinstance(node.func, ast.Name) and node.func.id in WALKED_AT_ONCE:
+                self.assertIsInstance(above, (ast.For, ast.comprehension), (name, node.lineno))
+                self.assertEqual(above.iter, node, (name, node.lineno))
+            if isinstance(node, ast.Attribute):
+                self.assertNotIn(node.attr, ("items", "keys", "values"), (name, node.lineno))
+        for name, loop in walk(ast.For):
+            walked = {node.id for node in ast.walk(loop.iter) if isinstance(node, ast.Name)}
+            for node in [node for one in loop.body for node in ast.walk(one)]:
+                if isinstance(node, ast.Call) and isinstance(node.func, ast.Attribute) and node.func.attr in CHANGES:
+                    self.assertNotIn(ast.unparse(node.func.value), walked, (name, node.lineno))
+                if isinstance(node, ast.Subscript) and isinstance(node.ctx, ast.Store):
+                    self.assertNotIn(ast.unparse(node.value), walked, (name, node.lineno))
+
+    def test_texts(self):
+        for path, source in sources().items():
+            for token in tokenize.generate_tokens(io.StringIO(source).readline):
+                if token.type == tokenize.STRING:
+                    self.assertNotIn("\\", token.string, (path.name, token.start))
+                    self.assertNotIn("%", token.string, (path.name, token.start))
+
+    def test_nothing_calls_itself(self):
+        called = {}
+        for name, node in walk(ast.FunctionDef):
+            functions = [one.func for one in ast.walk(node) if isinstance(one, ast.Call)]
+            called.setdefault(node.name, set()).update(
+                one.id if isinstance(one, ast.Name) else one.attr for one in functions)
+        while called:
+            free = [name for name, others in called.items() if not others & set(called)]
+            self.assertTrue(free, "functions call one another")
+            called = {name: others for name, others in called.items() if name not in free}
+
     def test_methods_and_values(self):
         methods = {one.name for name, node in walk(ast.ClassDef) for one in node.body if isinstance(one, ast.FunctionDef)}
         stored = {node.attr for name, node in walk(ast.Attribute) if isinstance(node.ctx, ast.Store)}
@@ -149,6 +253,13 @@ class Language(unittest.TestCase):
             for node in ast.walk(tree):
                 if isinstance(node, ast.Call) and isinstance(node.func, ast.Attribute):
                     self.assertIn(node.func.attr, methods | set(PYTHONS_METHODS), (path.name, node.lineno))
+        for name, above, node in parents():
+            if isinstance(node, ast.Attribute):
+                self.assertNotIn(node.attr, NOT_AS_NAMES, (name, node.lineno))
+                if isinstance(node.ctx, ast.Store):
+                    self.assertEqual(ast.unparse(node.value), "self", (name, node.lineno))
+                elif node.attr not in stored:
+                    self.assertEqual((type(above), above.func), (ast.Call, node), (name, node.lineno))
         kinds = (str, int, list, dict, set, bytes, tuple)
         for value in stored:
             self.assertFalse(any(hasattr(kind, value) for kind in kinds), value)

@@ -3,14 +3,18 @@
 import random
 import unittest
 
-from tests.plain import LONGEST_WHOLE, MOST, PlainHouse, ask, copy, delete, house_after, insert, line, part, shape
+from tests.plain import LONGEST_WHOLE, MOST, NAMES, PlainHouse
+from tests.plain import alike, ask, copy, delete, everything, house_after, insert, line, longest, nested, part, shape, where
 
 CHANGES = ("insert", "delete", "copy")
-ALL_CALLS = CHANGES + ("part", "line")
+READINGS = ("part", "line", "where", "longest", "shape", "alike", "everything")
+ALL_CALLS = CHANGES + READINGS
 
 
 def some_bytes(chance, most):
-    return [chance.choice((10, 97, chance.randrange(256))) for k in range(chance.randrange(most + 1))]
+    """Bytes with many line feeds, with few or with none, and of few letters, so that texts are alike now and then."""
+    signs = chance.choice((b"\na", b"\nabcdefg" + b"xy" * 9, b"ab", bytes(range(256))))
+    return [chance.choice(signs) for k in range(chance.randrange(most + 1))]
 
 
 def some_place(chance, size):
@@ -45,15 +49,34 @@ def some_call(chance, plain, most_bytes, names):
     if name == "part":
         return part(version, begin, end)
     if name == "line":
-        return line(version, chance.randrange(1 + size // 2))
+        feeds = plain.feeds(version) if version < count else 9
+        return line(version, some_place(chance, feeds))
+    if name == "where":
+        return where(version, begin)
+    if name == "longest":
+        return longest(version)
+    if name == "shape":
+        return shape(version)
+    if name == "everything":
+        return everything()
+    if name == "alike":
+        return some_alike(chance, plain, version, begin)
     into = some_version(chance, count)
     return copy(version, begin, end, into, some_place(chance, plain.size(into) if into < count else 9))
 
 
-def plain_shape(tree):
+def some_alike(chance, plain, version, place):
+    count = len(plain.trees)
+    other = some_version(chance, count)
+    if chance.random() < 0.5:
+        return alike(version, place, other, place)
+    return alike(version, place, other, some_place(chance, plain.size(other) if other < count else 9))
+
+
+def plain_nested(tree):
     if tree is None:
         return None
-    return tree.content if tree.leaf else (plain_shape(tree.first), plain_shape(tree.second))
+    return tree.content if tree.leaf else (plain_nested(tree.first), plain_nested(tree.second))
 
 
 class AgainstThePlainReckoning(unittest.TestCase):
@@ -64,22 +87,51 @@ class AgainstThePlainReckoning(unittest.TestCase):
         expected = []
         while len(calls) < 80:
             call = some_call(chance, plain, most_bytes, names)
-            if len(plain.whole[-1]) > LONGEST_WHOLE // 2 and call[0] == 2:
+            if plain.size(len(plain.trees) - 1) > LONGEST_WHOLE // 2 and call[0] == 2:
                 continue
             calls.append(call)
             expected.append(plain.answer(call))
         return plain, calls, expected
 
     def test_all_calls(self):
-        for seed in range(300):
+        for seed in range(400):
             plain, calls, expected = self.run_of(seed, (5, 30, 200)[seed % 3], ALL_CALLS)
             self.assertEqual(ask(*calls), expected, (seed, calls))
+
+    def test_more_changes_than_readings(self):
+        for seed in range(100):
+            plain, calls, expected = self.run_of(seed, (9, 60, 200)[seed % 3], CHANGES * 4 + READINGS)
+            self.assertEqual(ask(*calls), expected, (seed, calls))
+
+    def test_the_runs_meet_every_call_and_every_refusal(self):
+        met = {}
+        for seed in range(100):
+            plain, calls, expected = self.run_of(seed, 30, CHANGES * 12 + READINGS)
+            for call, answer in zip(calls, expected):
+                met.setdefault(NAMES[call[0]], set()).add(min(answer[0], 0))
+        self.assertEqual(met["everything"], {0})
+        self.assertEqual({name: refusals for name, refusals in met.items() if name in ("longest", "shape")},
+                         {"longest": {0, -2}, "shape": {0, -2}})
+        for name in ("part", "line", "where", "alike"):
+            self.assertEqual(met[name], {0, -1, -2}, name)
+        for name in CHANGES:
+            self.assertEqual(met[name], {0, -1, -2, -5}, name)
+
+    def test_after_every_change_every_version_is_read(self):
+        for seed in range(30):
+            plain, calls, expected = self.run_of(seed, 40, CHANGES)
+            calls = calls[:50]
+            count = len(house_after(*calls).trees)
+            for name in ("longest", "shape"):
+                for start in range(0, count, 30):
+                    some = [{"longest": longest, "shape": shape}[name](version) for version in range(start, min(count, start + 30))]
+                    self.assertEqual(ask(*calls, *some)[50:], [plain.answer(call) for call in some], seed)
 
     def test_trees_are_the_same_node_by_node(self):
         for seed in range(60):
             plain, calls, expected = self.run_of(seed, (3, 40, 200)[seed % 3], CHANGES)
             house = house_after(*calls)
-            self.assertEqual([shape(tree) for tree in house.trees], [plain_shape(tree) for tree in plain.trees], seed)
+            self.assertEqual([nested(tree) for tree in house.trees], [plain_nested(tree) for tree in plain.trees], seed)
 
     def test_older_versions_keep_their_bytes(self):
         for seed in range(20):
@@ -111,13 +163,16 @@ def flat_bytes(tree):
 class LongTexts(unittest.TestCase):
     """Texts that grow to 2^40 bytes by copies of copies; the counts of nodes are those of the plain reckoning."""
 
-    def run_of(self, seed):
+    def run_of(self, seed, changes=0.8, names=CHANGES):
         chance = random.Random(seed)
         plain = PlainHouse()
         calls = [insert(0, 0, some_bytes(chance, 200) + [10])]
         expected = [plain.answer(calls[0])]
         while len(calls) < 80:
-            call = self.growing(chance, plain) if chance.random() < 0.8 else some_call(chance, plain, 200, CHANGES)
+            call = self.growing(chance, plain) if chance.random() < changes else some_call(chance, plain, 200, names)
+            if call[0] == 3:
+                # Otherwise nearly every part of a long text would be refused.
+                call = part(call[1], call[2], min(call[3], call[2] + 150))
             calls.append(call)
             expected.append(plain.answer(call))
         return plain, calls, expected
@@ -140,6 +195,14 @@ class LongTexts(unittest.TestCase):
             self.check_trees(house_after(*calls), seed)
         self.assertEqual(longest, MOST)
 
+    def test_all_calls(self):
+        longest_text = 0
+        for seed in range(100, 130):
+            plain, calls, expected = self.run_of(seed, 0.6, READINGS + CHANGES)
+            self.assertEqual(ask(*calls), expected, (seed, calls))
+            longest_text = max(longest_text, max(plain.size(version) for version in range(len(plain.trees))))
+        self.assertGreater(longest_text, MOST // 2)
+
     def test_a_change_makes_a_few_hundred_nodes_at_most(self):
         for seed in range(25):
             plain, calls, expected = self.run_of(seed)
@@ -157,10 +220,11 @@ class LongTexts(unittest.TestCase):
             seen[node.number] = node
             if node.height == 0:
                 self.assertTrue(1 <= len(node.content) <= 8, seed)
-                self.assertEqual((node.size, node.feeds), (len(node.content), node.content.count(10)), seed)
+                self.assertEqual((node.size, node.feeds, node.leaves), (len(node.content), node.content.count(10), 1), seed)
             else:
                 first, second = node.first, node.second
                 self.assertLessEqual(abs(first.height - second.height), 1, seed)
                 self.assertEqual(node.height, 1 + max(first.height, second.height), seed)
-                self.assertEqual((node.size, node.feeds), (first.size + second.size, first.feeds + second.feeds), seed)
+                self.assertEqual((node.size, node.feeds, node.leaves),
+                                 (first.size + second.size, first.feeds + second.feeds, first.leaves + second.leaves), seed)
                 waiting += [first, second]

@@ -2,9 +2,9 @@
 
 import unittest
 
-from piecehouse.nodes import Maker, count_made_since
+from piecehouse.nodes import Maker, count_nodes
 from piecehouse.trees import joined, parted, sewn, with_ahead, with_behind, without_first_leaf, without_last_leaf
-from tests.plain import shape
+from tests.plain import nested
 
 
 def grown(maker, form):
@@ -26,8 +26,8 @@ class Turning(unittest.TestCase):
         second = grown(maker, t)
         earlier = maker.made
         tree = work(maker, first, second)
-        self.assertEqual(shape(tree), expected)
-        self.assertEqual(count_made_since(tree, earlier), made)
+        self.assertEqual(nested(tree), expected)
+        self.assertEqual(count_nodes([tree], earlier), made)
 
     def test_behind_at_most_1_higher(self):
         self.check(with_behind, A, B, (A, B), 1)
@@ -95,7 +95,7 @@ class Seams(unittest.TestCase):
         second = grown(maker, b)
         earlier = maker.made
         tree = sewn(maker, first, second)
-        return shape(tree), count_made_since(tree, earlier)
+        return nested(tree), count_nodes([tree], earlier)
 
     def test_with_none(self):
         maker = Maker()
@@ -122,19 +122,19 @@ class Seams(unittest.TestCase):
         self.assertEqual(self.sew((b"a", b"b"), (b"c", b"d")), (((b"a", b"bc"), b"d"), 3))
         maker = Maker()
         small = grown(maker, ((b"a", b"b"), (b"c", b"d")))
-        self.assertEqual(shape(without_first_leaf(maker, small)), (b"b", (b"c", b"d")))
-        self.assertEqual(shape(without_last_leaf(maker, small)), ((b"a", b"b"), b"c"))
+        self.assertEqual(nested(without_first_leaf(maker, small)), (b"b", (b"c", b"d")))
+        self.assertEqual(nested(without_last_leaf(maker, small)), ((b"a", b"b"), b"c"))
 
     def test_without_a_leaf(self):
         maker = Maker()
         leaf = grown(maker, A)
         self.assertIsNone(without_first_leaf(maker, leaf))
         self.assertIsNone(without_last_leaf(maker, leaf))
-        self.assertEqual(shape(without_first_leaf(maker, grown(maker, ((A, B), (C, D))))), (B, (C, D)))
-        self.assertEqual(shape(without_last_leaf(maker, grown(maker, ((A, B), (C, D))))), ((A, B), C))
+        self.assertEqual(nested(without_first_leaf(maker, grown(maker, ((A, B), (C, D))))), (B, (C, D)))
+        self.assertEqual(nested(without_last_leaf(maker, grown(maker, ((A, B), (C, D))))), ((A, B), C))
         # The height falls by 2 against the other side, so it's turned.
-        self.assertEqual(shape(without_first_leaf(maker, grown(maker, ((A, B), ((C, D), E))))), ((B, C), (D, E)))
-        self.assertEqual(shape(without_last_leaf(maker, grown(maker, ((A, (B, C)), (D, E))))), ((A, B), (C, D)))
+        self.assertEqual(nested(without_first_leaf(maker, grown(maker, ((A, B), ((C, D), E))))), ((B, C), (D, E)))
+        self.assertEqual(nested(without_last_leaf(maker, grown(maker, ((A, (B, C)), (D, E))))), ((A, B), (C, D)))
 
 
 class Parting(unittest.TestCase):
@@ -143,7 +143,7 @@ class Parting(unittest.TestCase):
         tree = grown(maker, form)
         earlier = maker.made
         sides = parted(maker, tree, place)
-        return [(shape(side), count_made_since(side, earlier)) for side in sides]
+        return [(nested(side), count_nodes([side], earlier)) for side in sides]
 
     def test_none(self):
         self.assertEqual(parted(Maker(), None, 0), (None, None))
@@ -184,13 +184,13 @@ class Counting(unittest.TestCase):
         leaf = grown(maker, A)
         twice = maker.over(leaf, leaf)
         four = maker.over(twice, twice)
-        self.assertEqual(count_made_since(four, 0), 3)
-        self.assertEqual(count_made_since(four, leaf.number), 2)
-        self.assertEqual(count_made_since(four, maker.made), 0)
-        self.assertEqual(count_made_since(None, 0), 0)
+        self.assertEqual(count_nodes([four], 0), 3)
+        self.assertEqual(count_nodes([four], leaf.number), 2)
+        self.assertEqual(count_nodes([four], maker.made), 0)
+        self.assertEqual(count_nodes([None], 0), 0)
 
     def test_nodes_that_are_not_in_the_tree_do_not_count(self):
         maker = Maker()
         kept = grown(maker, (A, B))
         grown(maker, (C, D))
-        self.assertEqual(count_made_since(kept, 0), 3)
+        self.assertEqual(count_nodes([kept], 0), 3)
